@@ -1,0 +1,1 @@
+"""A machine with a turning store."""
