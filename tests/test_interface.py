@@ -6,7 +6,9 @@ import itertools
 import sys
 import unittest
 
-from calling import HUGE, LARGEST_WORD, WRONG_ADDRESSES, WRONG_WORDS, line, new, peek, poke, taken_apart, told
+from calling import (
+    HUGE, LARGEST_WORD, LAST_TICK, WRONG_ADDRESSES, WRONG_WORDS, drum, line, load, new, order, peek, poke, run,
+    taken_apart, told, written)
 from turndrum.store import answers
 
 EDGE_CALLS = (
@@ -15,6 +17,14 @@ EDGE_CALLS = (
     poke(0, LARGEST_WORD + 1), poke(1999, -LARGEST_WORD - 1), poke(-1, 2), poke(2000, 2), poke(HUGE, -HUGE),
     peek(0), peek(1999), peek(-1), peek(2000),
     told(),
+)
+
+# A program that reads a card, punches it and stores a word; and each call refused and granted.
+MIXED_CALLS = (
+    load(0, 1, 0, 7, -8, 9, [0, written("RDC", 80, 3), 3, written("PCH", 80, 6), 6, written("STD", 1999, 9)]),
+    run(3, LAST_TICK, list(range(8, 24))), drum(), told(), order(written("STD", 1999, 9)), order(-1), order(HUGE),
+    run(1, 0, [4, 4, 4]), run(10001), load(7), load(0, numbers=[7, 7, 7]), run(5), run(5), told(),
+    load(numbers=[]), drum(), new(1999), poke(1999, 1), drum(), peek(1999), told(),
 )
 
 
@@ -69,6 +79,65 @@ class FormTest(unittest.TestCase):
             1, -1,
         ])
 
+    def test_counts_of_the_calls_with_lists(self):
+        self.assertEqual(answers([5, 0, 0, 0]), [3, 0, 0, 0])
+        self.assertEqual(answers([5, 1, 1, 0]), [3, 0, 1, 0])
+        self.assertEqual(answers([6, 0]), [14, 0, 72, 76, 84, 32, 48, 48, 48, 48, 32, 48, 48, 48, 48])
+        self.assertEqual(answers([7]), [1, 0])
+        self.assertEqual(answers([8, 0, 0, 0, 0, 0, 0, 0]), [1, 0])
+        self.assertEqual(answers([8, 0, 0, 0, 0, 0, 0, 2, 5, 6, 7]), [1, 0, 3, 0, 5, 6])
+        self.assertEqual(answers([2, 0, 7100000000, 5, 2, 999, 0]), [
+            1, 0, 19, 0, 2, 0, 7100000000, 0, 0, 0, 0, 0, 0, 0, 7100000000, 0, 0, 0, 0, 0, 0, 0])
+
+    def test_refusals_of_the_calls_with_lists(self):
+        self.assertEqual(answers([5, -1, 0, 0]), [1, -1])
+        self.assertEqual(answers([5, 0, 0, 3, 4, 4, 4]), [1, -1])
+        self.assertEqual(answers([6, -1, 6, HUGE]), [1, -6, 1, -1])
+        self.assertEqual(answers([8, 0, 0, 0, 0, 0, HUGE, 1, 4]), [1, -1])
+        self.assertEqual(answers([8, 0, 0, 0, 0, 0, 0, 1, 4]), [1, -6])
+
+    def test_lists_one_behind_another(self):
+        calls = [
+            8, 0, 0, 3, 0, 0, 0, 4, 3, 7000800005, 5, 7100800009,
+            5, 1, 100, 8, 1, 2, 3, 4, 5, 6, 7, 8,
+            5, 1, 100, 0,
+            5, 1, 100, 8, 1, 1, 1, 1, 1, 1, 1, 1,
+            7,
+            8, 1, 1, 1, 1, 1, 1, 0,
+            4,
+            8, 0, 0, 0, 0, 0, 0, 3, 7, 7, 7,
+            7,
+        ]
+        self.assertEqual(answers(calls), [
+            1, 0,
+            3, 0, 1, 1,
+            11, 0, 1, 0, 1, 2, 3, 4, 5, 6, 7, 8,
+            3, 0, 0, 0,
+            21, 0, 3, 7000800005, 5, 7100800009, 80, 1, 81, 2, 82, 3, 83, 4, 84, 5, 85, 6, 86, 7, 87, 8,
+            1, 0,
+            7, 0, 1, 1, 1, 1, 1, 1,
+            1, -6,
+            1, 0,
+        ])
+
+    def test_lists_that_look_like_calls(self):
+        self.assertEqual(answers([5, 0, 4, 8, 7, 7, 7, 7, 7, 7, 7, 7, 4]), [3, 0, 0, 0, 7, 0, 0, 0, 0, 0, 0, 0])
+        self.assertEqual(answers([8, 1, 1, 1, 1, 1, 1, 2, 4, 7, 7]), [1, 0, 3, 0, 4, 7])
+
+    def test_refused_calls_pass_over_their_lists(self):
+        self.assertEqual(answers([5, 0, 0, 600] + [4] * 600 + [7]), [1, -1, 1, 0])
+        self.assertEqual(answers([8, 0, 0, 0, 0, 0, 0, 4100] + [4] * 4100 + [7]), [1, -6, 1, 0])
+
+    def test_three_hundred_runs(self):
+        given = answers([2, 0, 100000000] + [5, 100, LAST_TICK, 0] * 298 + [4])
+        self.assertEqual(given, [1, 0] + [3, 0, 100, 0] * 298 + [7, 0, 0, 0, 0, 29800 * 40 - 37, 0, 0])
+
+    def test_as_many_numbers_as_there_may_be(self):
+        full = [number for address in range(2000) for number in (address, 1)]
+        calls = load(numbers=full) * 3 + drum() + run(0, 0, [1] * 512) * 3
+        self.assertLessEqual(len(calls), 14000)
+        self.assertEqual(answers(calls), [1, 0] * 3 + [4001, 0] + full + [3, 0, 0, 0] * 3)
+
     def test_arguments_that_look_like_calls(self):
         self.assertEqual(answers([1, 4, 2, 3, 1, 3, 3, 3, 2, 4]), [
             1, 0, 1, 0, 2, 0, 1, 2, 0, 0, 7, 0, 0, 0, 4, 0, 0, 0])
@@ -78,9 +147,10 @@ class FormTest(unittest.TestCase):
         self.assertEqual(taken_apart(answers(line(calls))), expected(calls))
 
     def test_whole_numbers_in_a_list(self):
-        given = answers(line(EDGE_CALLS))
-        self.assertIs(type(given), list)
-        self.assertEqual({type(number) for number in given}, {int})
+        for calls in (EDGE_CALLS, MIXED_CALLS):
+            given = answers(line(calls))
+            self.assertIs(type(given), list)
+            self.assertEqual({type(number) for number in given}, {int})
 
     def test_edge_calls_in_any_order(self):
         tail = [told(), peek(0), peek(1999)]
@@ -101,17 +171,24 @@ class WatchedList(list):
 
 class KeepsNothingTest(unittest.TestCase):
     def test_what_is_handed_in_is_not_changed(self):
-        calls = line(EDGE_CALLS)
-        before = list(calls)
-        answers(calls)
-        self.assertEqual(calls, before)
-        self.assertEqual(answers(WatchedList(before)), answers(before))
+        for calls in (line(EDGE_CALLS), line(MIXED_CALLS)):
+            before = list(calls)
+            answers(calls)
+            self.assertEqual(calls, before)
+            self.assertEqual(answers(WatchedList(before)), answers(before))
 
     def test_a_second_time_answers_as_the_first(self):
         calls = line([peek(0), told(), poke(0, 5), new(9), poke(9, 6), peek(9), told()])
         first = answers(calls)
         self.assertEqual(answers(calls), first)
         self.assertEqual(answers([4, 3, 9, 3, 0]), [7, 0, 0, 0, 0, 0, 0, 0, 2, 0, 0, 2, 0, 0])
+
+    def test_a_second_run_answers_as_the_first(self):
+        calls = line(MIXED_CALLS)
+        first = answers(calls)
+        self.assertEqual(first[:5], [1, 0, 11, 0, 3])
+        self.assertEqual(answers(calls), first)
+        self.assertEqual(answers([7, 4, 5, 1, 1, 0]), [1, 0, 7, 0, 0, 0, 0, 0, 0, 0, 3, 0, 1, 0])
 
     def test_what_is_given_back_is_the_callers_own(self):
         first = answers([4, 1, 2000])
@@ -125,6 +202,7 @@ class KeepsNothingTest(unittest.TestCase):
         err = io.StringIO()
         with contextlib.redirect_stdout(out), contextlib.redirect_stderr(err):
             answers(line(EDGE_CALLS))
+            answers(line(MIXED_CALLS))
         self.assertEqual((out.getvalue(), err.getvalue()), ("", ""))
         self.assertEqual(set(sys.modules), loaded)
 
